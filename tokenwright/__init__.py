@@ -1,0 +1,1 @@
+"""Tokenwright: texts cut into tokens by rules."""
