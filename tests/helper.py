@@ -1,7 +1,9 @@
 """What several tests need: trees in short, the fault that read tells, rules made at random with
-their trees, and a second way to find a fault's place."""
+their trees, a second way to find a fault's place, and the tokens straight from what the rules take."""
 
-from tokenwright.errors import BadRule
+import itertools
+
+from tokenwright.errors import BadRule, TokenError
 from tokenwright.reading import read
 
 ALL = "\n" + "".join(chr(number) for number in range(32, 127) if number != 37)
@@ -59,6 +61,72 @@ def places_of(tree):
     if kind in ("row", "or"):
         return sum(places_of(part) for part in inner)
     return places_of(inner)
+
+
+def refusal(call, *given):
+    """The class and the values of the refusal, or None where there is none."""
+    try:
+        call(*given)
+    except TokenError as told:
+        return (type(told).__name__,) + tuple(getattr(told, name) for name in ("rule", "at") if hasattr(told, name))
+    return None
+
+
+def ends(tree, text, at):
+    """The places at which what the tree takes of the text from a place on may end."""
+    kind, inner = tree
+    if kind == "one":
+        return {at + 1} if at < len(text) and text[at] in inner else set()
+    if kind == "or":
+        return set().union(*[ends(part, text, at) for part in inner])
+    if kind == "row":
+        reached = {at}
+        for part in inner:
+            reached = set().union(*[ends(part, text, place) for place in reached])
+        return reached
+    once = ends(inner, text, at)
+    if kind == "maybe":
+        return once | {at}
+    reached, fresh = set(), once
+    while fresh:
+        reached |= fresh
+        fresh = set().union(*[ends(inner, text, place) for place in fresh]) - reached
+    return reached | {at} if kind == "star" else reached
+
+
+def takes(tree, text):
+    return len(text) in ends(tree, text, 0)
+
+
+def first_taken(trees, text):
+    """The first rule that takes the text, or None."""
+    return next((number for number, tree in enumerate(trees) if takes(tree, text)), None)
+
+
+def token_at(trees, text, at):
+    """The token at a place, as [2.2] says it, or None."""
+    sizes = [end - at for tree in trees for end in ends(tree, text, at) if end > at]
+    if not sizes:
+        return None
+    return (first_taken(trees, text[at:at + max(sizes)]), max(sizes))
+
+
+def all_tokens(trees, text):
+    """The tokens, and the place of NoToken or None."""
+    told, at = [], 0
+    while at < len(text):
+        found = token_at(trees, text, at)
+        if found is None:
+            return told, at
+        told.append((found[0], text[at:at + found[1]]))
+        at += found[1]
+    return told, None
+
+
+def texts_up_to(signs, size):
+    """All texts of these signs up to a size: the shorter first, then sign by sign."""
+    ordered = sorted(signs, key=ALL.index)
+    return ["".join(row) for length in range(size + 1) for row in itertools.product(ordered, repeat=length)]
 
 
 class Walk:
@@ -209,3 +277,32 @@ class Maker:
 
     def choice(self, deep):
         return self.several("or", "|", lambda: self.row(deep))
+
+
+class SmallMaker:
+    """Rows of rules made at random, of few signs and places, none of which takes the empty text."""
+
+    PLACES = ("a", "a", "b", "b", "c", "[ab]", "[^a]", ".", "\\n", "[b-d]", "[^\n-~]")
+
+    def __init__(self, chance):
+        self.chance = chance
+
+    def rule(self, places):
+        if places == 1:
+            text = self.chance.choice(self.PLACES)
+        else:
+            ahead = self.chance.randint(1, places - 1)
+            between = self.chance.choice(("", "", "|"))
+            text = "(" + self.rule(ahead) + between + self.rule(places - ahead) + ")"
+        return text + self.chance.choice(("", "", "", "*", "+", "?", "?+"))
+
+    def rules(self, places):
+        """A row of rules with that many places in all."""
+        made = []
+        while places > 0:
+            count = self.chance.randint(1, places)
+            text = self.rule(count)
+            if fault(text) is None and not takes(read(text), ""):
+                made.append(text)
+                places -= count
+        return made if len(made) <= 6 else self.rules(sum(places_of(read(text)) for text in made))

@@ -30,6 +30,12 @@ BARRED_NAMES = set("register mro elements open input version_info with_traceback
 KEYWORDS = {"sorted": ("key", "reverse"), "min": ("key", "default"), "max": ("key", "default"),
             "sum": ("start",), "enumerate": ("start",), "zip": ("strict",)}
 
+WALKED_NAMES = ("zip", "enumerate", "reversed", "range")
+WALKED_METHODS = ("items", "keys", "values")
+WALKING = set("list tuple dict sorted sum any all enumerate zip min max".split())
+FREE_VALUES = set("count index title find get join lower upper split strip copy add".split())
+TAKEN_VALUES = {name for kind in (str, int, list, dict, set, bytes) for name in dir(kind)} | {"args"}
+
 
 def names_bound(node):
     if isinstance(node, ast.Name):
@@ -90,6 +96,30 @@ def is_is_allowed(node):
     beside = [node.left] + node.comparators
     asked = any(isinstance(sign, (ast.Is, ast.IsNot)) for sign in node.ops)
     return not asked or any(isinstance(part, ast.Constant) and part.value in (None, True, False) for part in beside)
+
+
+def is_walked(node):
+    if not isinstance(node, ast.Call):
+        return False
+    if isinstance(node.func, ast.Name):
+        return node.func.id in WALKED_NAMES
+    return isinstance(node.func, ast.Attribute) and node.func.attr in WALKED_METHODS
+
+
+def walks(parent, node):
+    if isinstance(parent, (ast.For, ast.comprehension)):
+        return parent.iter is node
+    if not isinstance(parent, ast.Call) or parent.args[:1] != [node]:
+        return False
+    if isinstance(parent.func, ast.Name):
+        return parent.func.id in WALKING
+    return isinstance(parent.func, ast.Attribute) and parent.func.attr == "join"
+
+
+def class_may_stand(parent, node):
+    if isinstance(parent, ast.Call):
+        return parent.func is node or getattr(parent.func, "id", None) == "isinstance"
+    return isinstance(parent, (ast.ClassDef, ast.ExceptHandler, ast.Attribute))
 
 
 class FormTest(unittest.TestCase):
@@ -189,6 +219,31 @@ class FormTest(unittest.TestCase):
         methods = {part.name for _, node in self.each_node(ast.ClassDef) for part in node.body
                    if isinstance(part, ast.FunctionDef)}
         self.assertEqual(values & methods, set())
+
+    def each_pair(self):
+        for where, parent in self.each_node():
+            for node in ast.iter_child_nodes(parent):
+                yield f"{where}, in it line {getattr(node, 'lineno', 0)}", parent, node
+
+    def test_what_is_walked_is_walked_on_the_spot(self):
+        for where, parent, node in self.each_pair():
+            if is_walked(node):
+                self.assertTrue(walks(parent, node), where)
+
+    def test_classes_are_not_handed_on(self):
+        classes = {node.name for _, node in self.each_node(ast.ClassDef)}
+        for where, parent, node in self.each_pair():
+            if isinstance(node, ast.Name) and node.id in classes:
+                self.assertTrue(class_may_stand(parent, node), where)
+
+    def test_no_sets(self):
+        for where, node in self.each_node(ast.Set, ast.Name):
+            self.assertFalse(isinstance(node, ast.Set) or node.id in ("set", "frozenset"), where)
+
+    def test_values_have_free_names(self):
+        for where, node in self.each_node(ast.Attribute):
+            if isinstance(node.ctx, ast.Store):
+                self.assertNotIn(node.attr, TAKEN_VALUES - FREE_VALUES, where)
 
     def test_values_and_calls(self):
         for where, node in self.each_node(ast.Constant):
